@@ -1,0 +1,1 @@
+"""Guildvote: a sign chosen by ballots in rounds."""
